@@ -1,0 +1,1 @@
+"""Arcmill: exact pictures of stretches and arcs, also without end."""
