@@ -2,6 +2,8 @@
 
 from arcmill.errors import NoNumber
 
+ONE = (1, 1)
+
 
 def greatest_divisor(one, other):
     """The greatest number that divides both whole numbers; 0 where both are 0."""

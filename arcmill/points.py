@@ -2,6 +2,8 @@
 
 from arcmill.fractions import below, minus, plus, times
 
+MIDDLE = ((0, 1), (0, 1))
+
 
 def together(p, q):
     """Both put together."""

@@ -51,6 +51,24 @@ def long_point(chance):
     return point(long_number(chance), long_number(chance))
 
 
+def some_frame(chance, long=False):
+    place = long_point(chance) if long else some_point(chance)
+    size = abs(long_number(chance)) if long else Fraction(chance.randint(1, 6), chance.randint(1, 6))
+    return (place, chance.randint(0, 3), chance.choice((1, -1)), fraction(size or 1))
+
+
+def spot(quarter, share, centre=(0, 0), radius=1):
+    """A point round a centre: so many quarters to the left of straight right, and a share, 0 to below 1, of one more.
+
+    Among such points the pair (quarter, share) is in the order of going to the left.
+    """
+    share = Fraction(share)
+    x, y = (1 - share ** 2) / (1 + share ** 2), 2 * share / (1 + share ** 2)
+    for _ in range(quarter):
+        x, y = -y, x
+    return point(centre[0] + radius * x, centre[1] + radius * y)
+
+
 def is_whole(value):
     return type(value) is int
 
