@@ -2,7 +2,7 @@
 
 from arcmill.errors import NoPiece
 from arcmill.fractions import ONE, minus, over, plus, times
-from arcmill.points import cross_product, dot_product, far, off, side, together, turned
+from arcmill.points import cross_product, dot_product, farther, off, side, together, turned
 from arcmill.stretches import on_straight
 
 
@@ -10,7 +10,7 @@ def arc(c, p, q):
     """The arc round c from p to the left to q, or the ring where these are alike."""
     if c == p or c == q:
         raise NoPiece("the centre is one of the points")
-    if far(c, p) != far(c, q):
+    if farther(c, p, q) != 0:
         raise NoPiece("the points are not as far from the centre")
     if p == q:
         return ("ring", c, p)
@@ -21,7 +21,7 @@ def on(piece, p):
     """Whether p is one of the points of a piece of any kind."""
     if piece[0] == "dot" or piece[0] == "stretch":
         return on_straight(piece, p)
-    if far(piece[1], p) != far(piece[1], piece[2]):
+    if farther(piece[1], p, piece[2]) != 0:
         return False
     return piece[0] == "ring" or not ahead(piece[1], piece[2], piece[3], p)
 

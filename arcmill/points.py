@@ -47,14 +47,49 @@ def far(p, q):
     return dot_product(way, way)
 
 
+def on_one_bottom(p):
+    """Whole numbers (x, y, d): p is (x / d, y / d)."""
+    x, y = p
+    if x[1] == y[1]:
+        return (x[0], y[0], x[1])
+    return (x[0] * y[1], y[0] * x[1], x[1] * y[1])
+
+
 def side(a, b, p):
     """1 where p is at the left of who goes from a to b, -1 at the right, else 0."""
-    top = cross_product(off(b, a), off(p, a))[0]
-    if top > 0:
+    # Only the sign is asked, so nothing is divided, however many figures there are.
+    ax, ay, ad = on_one_bottom(a)
+    bx, by, bd = on_one_bottom(b)
+    px, py, pd = on_one_bottom(p)
+    return sign(px * (ay * bd - by * ad) - py * (ax * bd - bx * ad) + pd * (ax * by - bx * ay))
+
+
+def sign(number):
+    """1, 0 or -1, of a whole number."""
+    if number > 0:
         return 1
-    if top < 0:
-        return -1
-    return 0
+    return 0 if number == 0 else -1
+
+
+def farther(c, p, q):
+    """1 where p is farther from c than q is, -1 where it is nearer, 0 where both are as far."""
+    p_square, pd = scaled_far(c, p)
+    q_square, qd = scaled_far(c, q)
+    return sign(p_square * qd * qd - q_square * pd * pd)
+
+
+def scaled_far(c, p):
+    """A pair (square, d): the square of the distance, taken d d times and c's own bottom two times, and d."""
+    cx, cy, cd = on_one_bottom(c)
+    px, py, pd = on_one_bottom(p)
+    x = px * cd - cx * pd
+    y = py * cd - cy * pd
+    return (x * x + y * y, pd)
+
+
+def between(p, q, share):
+    """The point at a share of the straight way from p to q: 0 is p, 1 is q."""
+    return together(p, grown(off(q, p), share))
 
 
 def before(p, q):

@@ -88,3 +88,127 @@ def is_frame(value):
     place, turns, hand, size = value
     return (is_point(place) and is_whole(turns) and 0 <= turns <= 3
             and is_whole(hand) and hand in (1, -1) and is_fraction(size) and size[0] > 0)
+
+
+def is_piece(value):
+    if type(value) is not tuple or value == () or not all(is_point(p) for p in value[1:]):
+        return False
+    word, *points = value
+    if word == "dot":
+        return len(points) == 1
+    if word == "stretch":
+        return len(points) == 2 and exact_point(points[0]) < exact_point(points[1])
+    if word == "ring":
+        return len(points) == 2 and points[0] != points[1]
+    return (word == "arc" and len(points) == 3 and points[1] != points[2]
+            and square(points[0], points[1]) == square(points[0], points[2]) > 0)
+
+
+def square(p, q):
+    """The square of the distance, without the help of the program."""
+    (px, py), (qx, qy) = exact_point(p), exact_point(q)
+    return (px - qx) ** 2 + (py - qy) ** 2
+
+
+def turn(c, a, p):
+    """A key in the order of going from a to the left round c, once round, a itself first."""
+    (cx, cy), (ax, ay), (px, py) = exact_point(c), exact_point(a), exact_point(p)
+    ux, uy, vx, vy = ax - cx, ay - cy, px - cx, py - cy
+    straight, left = ux * vx + uy * vy, ux * vy - uy * vx
+    if left == 0:
+        return (0, 0) if straight > 0 else (2, 0)
+    return (1, -straight / left) if left > 0 else (3, -straight / left)
+
+
+def has(piece, p):
+    """Whether a piece has a point, without the help of the program."""
+    if piece[0] == "dot":
+        return piece[1] == p
+    if piece[0] == "stretch":
+        (ax, ay), (bx, by), (x, y) = [exact_point(each) for each in (piece[1], piece[2], p)]
+        return (bx - ax) * (y - ay) == (by - ay) * (x - ax) and (ax, ay) <= (x, y) <= (bx, by)
+    if square(piece[1], p) != square(piece[1], piece[2]):
+        return False
+    return piece[0] == "ring" or turn(*piece[1:3], p) <= turn(*piece[1:4])
+
+
+def on_one_carrier(one, other):
+    """Whether two pieces lie on one line or circle, without the help of the program."""
+    if one[0] == "dot" or other[0] == "dot" or (one[0] == "stretch") != (other[0] == "stretch"):
+        return False
+    if one[0] != "stretch":
+        return one[1] == other[1] and square(*one[1:3]) == square(*other[1:3])
+    (ax, ay), (bx, by) = exact_point(one[1]), exact_point(one[2])
+    return all((bx - ax) * (y - ay) == (by - ay) * (x - ax) for x, y in map(exact_point, other[1:]))
+
+
+def is_chain(steps, piece):
+    """Whether pieces, in the order of the chain, are one for a piece, by the words of DOC.md 25."""
+    if piece[0] == "dot":
+        return len(steps) == 1 and has(steps[0], piece[1])
+    if not steps or not all(on_one_carrier(each, piece) for each in steps):
+        return False
+    if piece[0] == "stretch":
+        return (has(steps[0], piece[1]) and has(steps[-1], piece[2])
+                and all(has(later, each[2]) for each, later in zip(steps, steps[1:])))
+    if steps[0][0] == "ring":
+        return len(steps) == 1
+    stand, goal = piece[2], piece[-1]
+    for at, each in enumerate(steps):
+        if each[0] != "arc" or not has(each, stand) or each[3] == stand:
+            return False
+        met = stand != goal and turn(each[1], stand, goal) <= turn(each[1], stand, each[3])
+        if met != (at == len(steps) - 1):
+            return False
+        stand = each[3]
+    return True
+
+
+def some_piece(chance, most=6, bottoms=4):
+    """A piece of any kind, without the help of the program."""
+    word = chance.choice(("dot", "stretch", "arc", "ring"))
+    p, c = some_point(chance, most, bottoms), some_point(chance, most, bottoms)
+    if word == "dot" or c == p:
+        return ("dot", p)
+    if word == "stretch":
+        return ("stretch", *sorted((c, p), key=exact_point))
+    if word == "ring":
+        return ("ring", c, p)
+    (x, y), (cx, cy), t = exact_point(p), exact_point(c), some_number(chance) or Fraction(1)
+    u, v = (1 - t ** 2) / (1 + t ** 2), 2 * t / (1 + t ** 2)
+    return ("arc", c, p, point(cx + u * (x - cx) - v * (y - cy), cy + v * (x - cx) + u * (y - cy)))
+
+
+def an_end(frame, pieces, row=0, rounds=()):
+    """An end of a drawing, its pieces drawn by rows one behind the other."""
+    return (frame, row, rounds, [(piece, row + 1 + k, ()) for k, piece in enumerate(pieces)])
+
+
+def a_drawing(pieces, ends=()):
+    """A drawing of still pieces and of pairs of a map and pieces."""
+    still = [(piece, k, ()) for k, piece in enumerate(pieces)]
+    return (still, [an_end(frame, parts, 100 * (k + 1)) for k, (frame, parts) in enumerate(ends)])
+
+
+def some_point_of(chance, piece):
+    """A point of a piece, without the help of the program; of an arc one of its ends or a point of the circle."""
+    if piece[0] == "dot":
+        return piece[1]
+    if piece[0] == "stretch":
+        (ax, ay), (bx, by) = exact_point(piece[1]), exact_point(piece[2])
+        share = Fraction(chance.randint(0, 6), 6)
+        return point(ax + share * (bx - ax), ay + share * (by - ay))
+    (x, y), (cx, cy), t = exact_point(piece[2]), exact_point(piece[1]), Fraction(chance.randint(0, 4), 3)
+    if piece[0] == "arc" and chance.random() < .3:
+        return piece[3]
+    u, v = (1 - t ** 2) / (1 + t ** 2), 2 * t / (1 + t ** 2)
+    return point(cx + u * (x - cx) - v * (y - cy), cy + v * (x - cx) + u * (y - cy))
+
+
+def about(middle, turns, hand, size):
+    """The frame of these turns, hand and size that leads a point to itself, without the help of the program."""
+    x, y = exact_point(middle)
+    u, v = x, hand * y
+    for _ in range(turns):
+        u, v = -v, u
+    return (point(x - Fraction(size) * u, y - Fraction(size) * v), turns, hand, fraction(size))
