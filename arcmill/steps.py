@@ -74,3 +74,11 @@ def most_times(base, number):
             product = grown_product
             n += 1
     return n
+
+
+def exact_step(kind, number):
+    """The whole i whose step is a number, or None."""
+    if kind[0] == "smaller" and number[0] <= 0:
+        return None
+    step = last_step(kind, number)
+    return step if first_step(kind, number) == step else None

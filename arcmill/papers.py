@@ -1,0 +1,112 @@
+"""Papers: chains of one picture's pieces along those of another one, or a gap."""
+
+from arcmill.arcs import arc, on
+from arcmill.covers import cover_round, cover_stretch
+from arcmill.few import chain
+from arcmill.frames import led_piece
+from arcmill.shifts import keeps_line, shift
+from arcmill.slides import SlideCover
+from arcmill.steps import stepped
+from arcmill.stretches import stretch
+from arcmill.ways import powers_between
+
+
+class FixedCover:
+    """What covers the rounds of a dot, an arc, a ring or a stretch whose line the map doesn't keep.
+
+    All is seen from round 0 of the goal. Of each piece is kept (number, low, high, piece): by the powers from low to
+    high it comes to lie there, on the dot or on the goal's carrier; the piece is told as it lies there then.
+    """
+
+    def __init__(self, kind, picture, goal):
+        self.kind = kind
+        self.goal = goal
+        self.stills = self.rows_of(picture[0], 0)
+        self.flows = self.rows_of(picture[1], len(picture[0]))
+
+    def rows_of(self, pieces, number):
+        """These tuples of pieces, the first of them having this number."""
+        rows = []
+        for at, piece in enumerate(pieces):
+            if self.goal[0] == "dot":
+                rows += [(number + at, low, high, self.goal) for low, high in self.powers_of(piece)]
+            else:
+                n = shift(self.kind, piece, self.goal)
+                if n is not None:
+                    rows.append((number + at, n, n, led_piece(stepped(self.kind, n), piece)))
+        return rows
+
+    def powers_of(self, piece):
+        """Pairs of powers between which a piece is led to a dot."""
+        p = self.goal[1]
+        if self.kind[0] == "none" or (self.kind[0] == "smaller" and self.kind[1] == p):
+            return [(0, 0)] if on(piece, p) else []
+        return powers_between(self.kind, piece, p)
+
+    def led_along(self, n, pure):
+        """The chain for round n, of flow alone where it is pure, and None; or None and a gap in the goal."""
+        rows = [(row[0], row[2] + n, row[3]) for row in self.flows if row[2] + n >= 0]
+        if not pure:
+            rows += [(row[0], 0, row[3]) for row in self.stills if row[1] <= -n <= row[2]]
+        pieces = [row[2] for row in rows]
+        numbers = chain(pieces, self.goal)
+        if numbers is None:
+            return (None, self.gap(pieces))
+        return ([rows[k][:2] for k in numbers], None)
+
+    def gap(self, pieces):
+        """The pair of points between which none of the pieces covers the goal."""
+        if self.goal[0] == "dot":
+            return (self.goal[1], self.goal[1])
+        numbers = list(range(len(pieces)))
+        if self.goal[0] == "stretch":
+            return cover_stretch(pieces, numbers, self.goal)[1]
+        return cover_round(pieces, numbers, self.goal)[1]
+
+
+def cover_for(kind, picture, goal):
+    """What covers the rounds of a goal by a picture."""
+    if keeps_line(kind, goal):
+        return SlideCover(kind, picture, goal)
+    return FixedCover(kind, picture, goal)
+
+
+def papers_of(kind, own, other):
+    """A pair: the papers of all pieces of one's own picture, of the other one, and None; or None and a hole.
+
+    The hole is a pair of a round and a piece: led by that round, no point within the piece is on a piece of the other
+    picture on its carrier.
+    """
+    papers = []
+    for goal in own[0]:
+        found, gap = cover_for(kind, other, goal).led_along(0, False)
+        if found is None:
+            return (None, (0, gap_piece(goal, gap)))
+        papers.append(found)
+    for goal in own[1]:
+        chains, hole = flow_paper(cover_for(kind, other, goal))
+        if chains is None:
+            return (None, (hole[0], gap_piece(goal, hole[1])))
+        papers.append(chains)
+    return (papers, None)
+
+
+def flow_paper(cover):
+    """A pair: the chains for round 0 and on, up to one of flow alone, and None; or None and a round with its gap."""
+    chains = []
+    while True:
+        n = len(chains)
+        found, gap = cover.led_along(n, True)
+        if found is not None:
+            return (chains + [found], None)
+        found, gap = cover.led_along(n, False)
+        if found is None:
+            return (None, (n, gap))
+        chains.append(found)
+
+
+def gap_piece(goal, gap):
+    """The piece of a gap between two points of a goal."""
+    if goal[0] == "dot" or goal[0] == "stretch":
+        return stretch(gap[0], gap[1])
+    return arc(goal[1], gap[0], gap[1])
