@@ -4,7 +4,7 @@ from arcmill.arcs import arc, on
 from arcmill.covers import cover_round, cover_stretch
 from arcmill.few import chain
 from arcmill.frames import led_piece
-from arcmill.shifts import keeps_line, shift
+from arcmill.shifts import family, keeps_line, shift
 from arcmill.slides import SlideCover
 from arcmill.steps import stepped
 from arcmill.stretches import stretch
@@ -14,26 +14,27 @@ from arcmill.ways import powers_between
 class FixedCover:
     """What covers the rounds of a dot, an arc, a ring or a stretch whose line the map doesn't keep.
 
-    All is seen from round 0 of the goal. Of each piece is kept (number, low, high, piece): by the powers from low to
-    high it comes to lie there, on the dot or on the goal's carrier; the piece is told as it lies there then.
+    It is told pairs of a number and a piece, of the goal's family where that is no dot, of still and of flow. All is
+    seen from round 0 of the goal. Of each piece is kept (number, low, high, piece): by the powers from low to high it
+    comes to lie there, on the dot or on the goal's carrier; the piece is told as it lies there then.
     """
 
-    def __init__(self, kind, picture, goal):
+    def __init__(self, kind, goal, stills, flows):
         self.kind = kind
         self.goal = goal
-        self.stills = self.rows_of(picture[0], 0)
-        self.flows = self.rows_of(picture[1], len(picture[0]))
+        self.stills = self.rows_of(stills)
+        self.flows = self.rows_of(flows)
 
-    def rows_of(self, pieces, number):
-        """These tuples of pieces, the first of them having this number."""
+    def rows_of(self, pieces):
+        """These tuples of pairs of a number and a piece."""
         rows = []
-        for at, piece in enumerate(pieces):
+        for number, piece in pieces:
             if self.goal[0] == "dot":
-                rows += [(number + at, low, high, self.goal) for low, high in self.powers_of(piece)]
+                rows += [(number, low, high, self.goal) for low, high in self.powers_of(piece)]
             else:
                 n = shift(self.kind, piece, self.goal)
                 if n is not None:
-                    rows.append((number + at, n, n, led_piece(stepped(self.kind, n), piece)))
+                    rows.append((number, n, n, led_piece(stepped(self.kind, n), piece)))
         return rows
 
     def powers_of(self, piece):
@@ -64,11 +65,23 @@ class FixedCover:
         return cover_round(pieces, numbers, self.goal)[1]
 
 
-def cover_for(kind, picture, goal):
-    """What covers the rounds of a goal by a picture."""
+def families_of(kind, pieces, number):
+    """A dict of lists of pairs of a number and a piece by their families, all by None, counted from number on."""
+    families = {None: []}
+    for at, piece in enumerate(pieces):
+        pair = (number + at, piece)
+        families[None].append(pair)
+        if piece[0] != "dot":
+            families.setdefault(family(kind, piece), []).append(pair)
+    return families
+
+
+def cover_for(kind, goal, stills, flows):
+    """What covers the rounds of a goal, of pieces of still and of flow told by their families."""
+    own = family(kind, goal)
     if keeps_line(kind, goal):
-        return SlideCover(kind, picture, goal)
-    return FixedCover(kind, picture, goal)
+        return SlideCover(kind, goal, stills.get(own, []), flows.get(own, []))
+    return FixedCover(kind, goal, stills.get(own, []), flows.get(own, []))
 
 
 def papers_of(kind, own, other):
@@ -77,14 +90,16 @@ def papers_of(kind, own, other):
     The hole is a pair of a round and a piece: led by that round, no point within the piece is on a piece of the other
     picture on its carrier.
     """
+    stills = families_of(kind, other[0], 0)
+    flows = families_of(kind, other[1], len(other[0]))
     papers = []
     for goal in own[0]:
-        found, gap = cover_for(kind, other, goal).led_along(0, False)
+        found, gap = cover_for(kind, goal, stills, flows).led_along(0, False)
         if found is None:
             return (None, (0, gap_piece(goal, gap)))
         papers.append(found)
     for goal in own[1]:
-        chains, hole = flow_paper(cover_for(kind, other, goal))
+        chains, hole = flow_paper(cover_for(kind, goal, stills, flows))
         if chains is None:
             return (None, (hole[0], gap_piece(goal, hole[1])))
         papers.append(chains)

@@ -1,9 +1,10 @@
 """Which powers of a plain map, told by its kind, lead the carrier of one piece to that of another one."""
 
 from arcmill.few import same_carrier
-from arcmill.fractions import minus, over
-from arcmill.points import cross_product, dot_product, far, grown, off, side, together
+from arcmill.fractions import greatest_divisor, minus, over
+from arcmill.points import cross_product, dot_product, far, grown, off, on_one_bottom, side, together
 from arcmill.steps import exact_step
+from arcmill.stretches import line
 from arcmill.ways import root_of
 
 
@@ -16,10 +17,28 @@ def keeps_line(kind, piece):
     return side(piece[1], piece[2], kind[1]) == 0
 
 
-def shift(kind, piece, goal):
-    """The power that leads the carrier of a piece to that of a goal, whose carrier the map doesn't keep; or None."""
-    if piece[0] == "dot" or (piece[0] == "stretch") != (goal[0] == "stretch"):
+def family(kind, piece):
+    """A tuple that the map doesn't change, so that only carriers of one family are led to each other; None of a dot."""
+    if piece[0] == "dot":
         return None
+    if piece[0] == "stretch":
+        return ("line",) + shortened(line(piece[1], piece[2])[1:3])
+    if kind[0] == "smaller":
+        return ("circle",) + shortened(on_one_bottom(off(piece[1], kind[1]))[:2])
+    return ("circle", far(piece[1], piece[2]))
+
+
+def shortened(pair):
+    """Two whole numbers divided by what divides both."""
+    shared = max(1, greatest_divisor(pair[0], pair[1]))
+    return (pair[0] // shared, pair[1] // shared)
+
+
+def shift(kind, piece, goal):
+    """The power that leads the carrier of a piece to that of a goal, or None.
+
+    Both are of one family, and no stretches whose line the map keeps.
+    """
     if kind[0] == "none":
         return 0 if same_carrier(piece, goal) else None
     if goal[0] == "stretch":
@@ -28,10 +47,8 @@ def shift(kind, piece, goal):
 
 
 def line_shift(kind, piece, goal):
-    """The power that leads the line of a stretch to that of another one."""
+    """The power that leads the line of a stretch to that of another one that goes the same way."""
     way = off(goal[2], goal[1])
-    if cross_product(way, off(piece[2], piece[1]))[0] != 0:
-        return None
     # How far at the left of the goal's line a point is, in some measure.
     left = cross_product(way, off(piece[1], goal[1]))
     if kind[0] == "on":
@@ -42,15 +59,11 @@ def line_shift(kind, piece, goal):
 
 def circle_shift(kind, piece, goal):
     """The power that leads the circle of an arc or ring to that of another one."""
-    square = far(piece[1], piece[2])
-    goal_square = far(goal[1], goal[2])
     if kind[0] == "on":
-        if square != goal_square:
-            return None
         away = off(goal[1], piece[1])
         number = over(dot_product(away, kind[1]), dot_product(kind[1], kind[1]))
         return exact_step(kind, number) if away == grown(kind[1], number) else None
-    number = root_of(over(square, goal_square))
+    number = root_of(over(far(piece[1], piece[2]), far(goal[1], goal[2])))
     if number is None or off(piece[1], kind[1]) != grown(off(goal[1], kind[1]), number):
         return None
     return exact_step(kind, number)

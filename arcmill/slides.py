@@ -37,8 +37,8 @@ def last_round(kind, number, limit):
 
 
 def slide_of(kind, goal, piece):
-    """The pair (start, stop) of a stretch by its numbers, None where it isn't on the goal's line or ray."""
-    if piece[0] != "stretch" or side(goal[1], goal[2], piece[1]) != 0 or side(goal[1], goal[2], piece[2]) != 0:
+    """The pair (start, stop) of a stretch that goes the same way, None where it isn't on the goal's line or ray."""
+    if side(goal[1], goal[2], piece[1]) != 0:
         return None
     one = number_of(kind, goal, piece[1])
     other = number_of(kind, goal, piece[2])
@@ -47,24 +47,27 @@ def slide_of(kind, goal, piece):
     return (least(one, other), greatest(one, other))
 
 
-def slides_of(kind, goal, pieces, number):
-    """Tuples (number, start, stop) of the pieces on the goal's line or ray, the first piece having this number."""
+def slides_of(kind, goal, pieces):
+    """Tuples (number, start, stop) of those pairs of a number and a piece that are on the goal's line or ray."""
     found = []
-    for at, piece in enumerate(pieces):
+    for number, piece in pieces:
         slide = slide_of(kind, goal, piece)
         if slide is not None:
-            found.append((number + at, slide[0], slide[1]))
+            found.append((number, slide[0], slide[1]))
     return found
 
 
 class SlideCover:
-    """What covers the rounds of a stretch whose line the map keeps, seen from its round 0."""
+    """What covers the rounds of a stretch whose line the map keeps, seen from its round 0.
 
-    def __init__(self, kind, picture, goal):
+    It is told pairs of a number and a piece that go the same way, of still and of flow.
+    """
+
+    def __init__(self, kind, goal, stills, flows):
         self.kind = kind
         self.goal = goal
-        self.stills = slides_of(kind, goal, picture[0], 0)
-        self.flows = slides_of(kind, goal, picture[1], len(picture[0]))
+        self.stills = slides_of(kind, goal, stills)
+        self.flows = slides_of(kind, goal, flows)
 
     def led_along(self, n, pure):
         """The chain for round n, of flow alone where it is pure, and None; or None and a gap in the goal."""

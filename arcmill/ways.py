@@ -1,8 +1,8 @@
 """Where a point that goes straight on is on a piece, and so which powers of a plain map lead a piece to a point."""
 
 from arcmill.arcs import on
-from arcmill.fractions import below, greatest, least, minus, over, plus, times
-from arcmill.points import cross_product, dot_product, far, grown, off, together
+from arcmill.fractions import greatest, least, minus, over, ratio
+from arcmill.points import between, cross_product, off, on_one_bottom, side
 from arcmill.steps import first_step, last_step
 
 
@@ -24,68 +24,89 @@ def powers_between(kind, piece, point):
 def meetings_back(kind, piece, point):
     """Pairs of numbers, as in meetings, between which the steps are whose powers of a plain map undone lead there."""
     if kind[0] == "on":
-        return meetings(piece, point, grown(kind[1], (-1, 1)))
-    pairs = meetings(piece, kind[1], off(point, kind[1]))
+        return meetings(piece, point, off(point, kind[1]))
+    pairs = meetings(piece, kind[1], point)
     return [pair for pair in pairs if pair[1][0] > 0]
 
 
-def meetings(piece, start, way):
-    """Pairs (low, high) of numbers: start and a number t times the way together are on the piece where t is between.
+def meetings(piece, start, second):
+    """Pairs (low, high) of numbers t: the points at t between them, 0 being start and 1 the second, are on the piece.
 
-    The way isn't the middle point. Numbers that are no fractions are left out.
+    Start and second are unlike. Numbers that are no fractions are left out.
     """
     if piece[0] == "dot":
-        return meetings_with_dot(piece[1], start, way)
+        return meetings_with_dot(piece[1], start, second)
     if piece[0] == "stretch":
-        return meetings_with_stretch(piece, start, way)
-    # The square of the distance from the centre, less that of the radius, is a t t + 2 b t + c.
-    away = off(start, piece[1])
-    a = dot_product(way, way)
-    b = dot_product(away, way)
-    c = minus(dot_product(away, away), far(piece[1], piece[2]))
-    root = root_of(minus(times(b, b), times(a, c)))
-    if root is None:
-        return []
+        return meetings_with_stretch(piece, start, second)
     found = []
-    for t in [over(minus(root, b), a), over(plus(root, b), (-a[0], a[1]))]:
-        if (t, t) not in found and on(piece, together(start, grown(way, t))):
+    for t in circle_meetings(piece, start, second):
+        if (t, t) not in found and on(piece, between(start, second, t)):
             found.append((t, t))
     return found
 
 
-def meetings_with_dot(p, start, way):
+def meetings_with_dot(p, start, second):
     """The meetings with a dot, one or none."""
-    there = off(p, start)
-    if cross_product(way, there)[0] != 0:
+    if side(start, second, p) != 0:
         return []
-    t = over(dot_product(way, there), dot_product(way, way))
+    # On a line, any one of x and y that isn't the same everywhere tells where a point is.
+    axis = 1 if start[0] == second[0] else 0
+    t = over(minus(p[axis], start[axis]), minus(second[axis], start[axis]))
     return [(t, t)]
 
 
-def meetings_with_stretch(piece, start, way):
+def meetings_with_stretch(piece, start, second):
     """The meetings with a stretch, one or none."""
-    length = off(piece[2], piece[1])
-    there = off(piece[1], start)
-    turn = cross_product(way, length)
-    if turn[0] == 0:
-        ends = meetings_with_dot(piece[1], start, way) + meetings_with_dot(piece[2], start, way)
-        return [(least(ends[0][0], ends[1][0]), greatest(ends[0][0], ends[1][0]))] if ends != [] else []
-    share = over(cross_product(there, way), turn)
-    if share[0] < 0 or below((1, 1), share):
+    sides = (side(start, second, piece[1]), side(start, second, piece[2]))
+    if sides == (0, 0):
+        one = meetings_with_dot(piece[1], start, second)[0][0]
+        other = meetings_with_dot(piece[2], start, second)[0][0]
+        return [(least(one, other), greatest(one, other))]
+    if sides[0] == sides[1]:
         return []
-    t = over(cross_product(there, length), turn)
+    way = off(second, start)
+    length = off(piece[2], piece[1])
+    t = over(cross_product(off(piece[1], start), length), cross_product(way, length))
     return [(t, t)]
+
+
+def circle_meetings(piece, start, second):
+    """The numbers, two or none, at which a point that goes straight on is on the circle of an arc or ring."""
+    sx, sy, sd = on_one_bottom(start)
+    ex, ey, ed = on_one_bottom(second)
+    cx, cy, cd = on_one_bottom(piece[1])
+    px, py, pd = on_one_bottom(piece[2])
+    # The way, start as seen from the centre, and the radius, each taken as often as its bottoms ask for.
+    way_x, way_y = ex * sd - sx * ed, ey * sd - sy * ed
+    off_x, off_y = sx * cd - cx * sd, sy * cd - cy * sd
+    radius_x, radius_y = px * cd - cx * pd, py * cd - cy * pd
+    length = way_x * way_x + way_y * way_y
+    turn = way_x * off_y - way_y * off_x
+    room = length * (radius_x * radius_x + radius_y * radius_y) * sd * sd - turn * turn * pd * pd
+    root = exact_root(room)
+    if root is None:
+        return []
+    straight = (way_x * off_x + way_y * off_y) * pd
+    return [ratio(ed * (number - straight), cd * pd * length) for number in (root, -root)]
+
+
+def exact_root(number):
+    """The whole number from 0 on whose square a whole number is, or None."""
+    # What a square leaves over by these few numbers tells most others apart, and at once.
+    if number < 0 or number % 16 not in (0, 1, 4, 9) or number % 9 not in (0, 1, 4, 7):
+        return None
+    rest = number % 5005
+    if rest % 5 not in (0, 1, 4) or rest % 7 not in (0, 1, 2, 4) or rest % 11 not in (0, 1, 3, 4, 5, 9):
+        return None
+    root = whole_root(number)
+    return root if root * root == number else None
 
 
 def root_of(number):
     """The fraction from 0 on whose square a fraction is, or None."""
-    if number[0] < 0:
-        return None
-    top = whole_root(number[0])
-    bottom = whole_root(number[1])
-    if top * top != number[0] or bottom * bottom != number[1]:
-        return None
-    return (top, bottom)
+    top = exact_root(number[0])
+    bottom = exact_root(number[1])
+    return None if top is None or bottom is None else (top, bottom)
 
 
 def whole_root(number):

@@ -9,7 +9,7 @@ from arcmill.movers import count, kind, power
 from arcmill.order import in_order
 from arcmill.points import before, between, farther, side
 from arcmill.steps import first_step, last_step, most_times, raised, stepped
-from arcmill.ways import meetings, powers_between, root_of, whole_root
+from arcmill.ways import exact_root, meetings, powers_between, root_of, whole_root
 from tests.helpers import (LONG, exact, exact_point, fraction, has, long_point, point, some_frame, some_piece,
                            some_point, some_point_of, source, square)
 
@@ -47,9 +47,11 @@ class Steps(unittest.TestCase):
 
 class Ways(unittest.TestCase):
     def test_roots(self):
-        for n in list(range(200)) + [LONG ** 2, LONG ** 2 - 1, LONG ** 2 + 2 * LONG]:
+        for n in list(range(3000)) + [n ** 2 for n in range(5005)] + [LONG ** 2, LONG ** 2 - 1, LONG ** 2 + 2 * LONG]:
             root = whole_root(n)
             self.assertTrue(root ** 2 <= n < (root + 1) ** 2)
+            self.assertEqual(exact_root(n), root if root ** 2 == n else None)
+        self.assertIsNone(exact_root(-4))
         self.assertEqual(root_of((9, 4)), (3, 2))
         self.assertEqual(root_of((0, 1)), (0, 1))
         for none in ((-4, 9), (2, 9), (4, 3)):
@@ -64,13 +66,13 @@ class Ways(unittest.TestCase):
             if chance.random() < .6:
                 (x, y), (u, v) = exact_point(some_point_of(chance, piece)), exact_point(way)
                 start = point(x - 2 * u, y - 2 * v)
-            told = meetings(piece, start, way)
+            (x, y), (u, v) = exact_point(start), exact_point(way)
+            told = meetings(piece, start, point(x + u, y + v))
             numbers = [exact(number) for pair in told for number in pair]
             for low, high in told:
                 numbers += [(exact(low) + exact(high)) / 2]
                 self.assertLessEqual(exact(low), exact(high))
             self.assertEqual(len(set(told)), len(told))
-            (x, y), (u, v) = exact_point(start), exact_point(way)
             for t in [Fraction(2)] + numbers + [number + Fraction(1, 7) for number in numbers]:
                 within = any(exact(low) <= t <= exact(high) for low, high in told)
                 self.assertEqual(has(piece, point(x + t * u, y + t * v)), within)
