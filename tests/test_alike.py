@@ -9,6 +9,7 @@ from arcmill.arcs import at_share
 from arcmill.asked import asked
 from arcmill.errors import NoKin, TooMuch
 from arcmill.frames import led_piece
+from arcmill.going import drawn
 from arcmill.kin import evened
 from arcmill.movers import power
 from tests.helpers import (LONG, a_drawing, about, an_end, exact_point, fraction, is_point, long_point, names_of, point,
@@ -271,6 +272,23 @@ class Any(Look):
             else:
                 self.parted(one, other)
         self.assertTrue(all(words.count(word) > 20 for word in ("alike", "unlike")))
+
+
+class Drawn(Look):
+    def test_programs(self):
+        half, step = ("grow", (1, 2)), ("go", (4, 1))
+        bend, dot_row, left, skip = ("quarter", (1, 1)), ("dot",), ("left",), ("skip", (4, 1))
+        for rows in ((step, left, half), (bend, half), (step, skip), (bend, dot_row, ("mirror",), skip), (step, left),
+                     (("again", 3, (bend, half)), ("keep", (left, step)), ("mirror",))):
+            one = drawn((left, step, ("ever", rows)))
+            self.same(one, drawn((left, step, ("ever", rows + rows))))
+            self.same(one, drawn((left, step, ("keep", (("again", 3, rows), ("ever", rows))))))
+        spiral = drawn((("ever", (bend, half)),))
+        self.same(spiral, drawn((bend, half, ("ever", (bend, half)))))
+        self.parted(spiral, drawn((("ever", (bend, ("keep", (("skip", (9, 1)), dot_row)), half)),)), 1)
+        self.assertRaises(NoKin, alike, spiral, drawn((("ever", (bend, ("grow", (1, 4)))),)))
+        self.parted(spiral, drawn((("skip", (0, 1)), bend, half, bend, half, bend, ("skip", (0, 1)))), 0)
+        self.parted(drawn((("ever", (step, skip)),)), drawn((("ever", (step, step)),)), 1)
 
 
 class Refused(Look):
