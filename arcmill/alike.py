@@ -2,6 +2,7 @@
 
 from arcmill.arcs import at_share, quarters, share_of
 from arcmill.asked import asked
+from arcmill.errors import TooMuch
 from arcmill.fractions import times
 from arcmill.frames import led
 from arcmill.kin import evened
@@ -9,31 +10,47 @@ from arcmill.papers import papers_of
 from arcmill.points import between
 from arcmill.steps import stepped
 
+MOST_REFUSED = 8
+
 
 def alike(one, other):
     """("alike", even, (ones, others)) of two kin drawings with the same points, else what parts them."""
     even = evened(one, other)
     kind, own, held = even
-    ones, hole = papers_of(kind, own, held)
-    if ones is None:
-        return unlike(kind, hole, 0, one, other)
-    others, hole = papers_of(kind, held, own)
-    if others is None:
-        return unlike(kind, hole, 1, other, one)
-    return ("alike", even, (ones, others))
+    ones, holes = papers_of(kind, own, held)
+    others, other_holes = papers_of(kind, held, own)
+    if holes == [] and other_holes == []:
+        return ("alike", even, (ones, others))
+    for hole in holes:
+        told = unlike(kind, hole, 0, one, other)
+        if told is not None:
+            return told
+    for hole in other_holes:
+        told = unlike(kind, hole, 1, other, one)
+        if told is not None:
+            return told
+    raise TooMuch("no point that parts them can be asked")
 
 
 def unlike(kind, hole, which, own, other):
-    """("unlike", which, point, inside, outside) by a point of the hole, a round and a piece, that the other hasn't."""
+    """("unlike", which, point, inside, outside) by a point of the hole, a round and a piece, that the other hasn't.
+
+    None where such points can't be asked: those of arcs may lie nearer to the middle of an end than its rounds go.
+    """
     frame = stepped(kind, hole[0])
     parts = 2
-    while True:
+    refused = 0
+    while refused < MOST_REFUSED:
         point = led(frame, point_within(hole[1], parts))
-        outside = asked(other, point)
-        # A piece that crosses the hole may have this very point, so it may take some.
-        if outside[0] == "out":
-            return ("unlike", which, point, asked(own, point), outside)
+        try:
+            outside = asked(other, point)
+            # A piece that crosses the hole may have this very point, so it may take some.
+            if outside[0] == "out":
+                return ("unlike", which, point, asked(own, point), outside)
+        except TooMuch:
+            refused += 1
         parts += 1
+    return None
 
 
 def point_within(piece, parts):

@@ -85,25 +85,29 @@ def cover_for(kind, goal, stills, flows):
 
 
 def papers_of(kind, own, other):
-    """A pair: the papers of all pieces of one's own picture, of the other one, and None; or None and a hole.
+    """A pair of lists: the papers of one's own picture's pieces, of the other one, and the holes of those without one.
 
-    The hole is a pair of a round and a piece: led by that round, no point within the piece is on a piece of the other
+    A hole is a pair of a round and a piece: led by that round, no point within the piece is on a piece of the other
     picture on its carrier.
     """
     stills = families_of(kind, other[0], 0)
     flows = families_of(kind, other[1], len(other[0]))
     papers = []
-    for goal in own[0]:
-        found, gap = cover_for(kind, goal, stills, flows).led_along(0, False)
-        if found is None:
-            return (None, (0, gap_piece(goal, gap)))
-        papers.append(found)
-    for goal in own[1]:
-        chains, hole = flow_paper(cover_for(kind, goal, stills, flows))
-        if chains is None:
-            return (None, (hole[0], gap_piece(goal, hole[1])))
-        papers.append(chains)
-    return (papers, None)
+    holes = []
+    for at, goal in enumerate(own[0] + own[1]):
+        cover = cover_for(kind, goal, stills, flows)
+        paper, hole = still_paper(cover) if at < len(own[0]) else flow_paper(cover)
+        if paper is None:
+            holes.append((hole[0], gap_piece(goal, hole[1])))
+        else:
+            papers.append(paper)
+    return (papers, holes)
+
+
+def still_paper(cover):
+    """A pair: the chain for round 0, and None; or None and that round with its gap."""
+    found, gap = cover.led_along(0, False)
+    return (found, None) if found is not None else (None, (0, gap))
 
 
 def flow_paper(cover):

@@ -246,6 +246,24 @@ class Smaller(Look):
                     a_drawing([level(size ** 250, 1)], [(smaller(3, 4), [dot(size ** 252)])]), 0)
 
 
+class Near(Look):
+    """Arcs that come nearer to the middle of an end than any of its rounds that can be asked."""
+
+    def setUp(self):
+        p = (fraction(1, LONG - 1), fraction(1, LONG - 2))
+        middle = (fraction(1, LONG), fraction(1, LONG))
+        self.arc = ("arc", point(10 ** 59, 10 ** 59), p, p[::-1])
+        self.end = (about(middle, 0, 1, Fraction(3, 4)), [dot(LONG, LONG)])
+
+    def test_another_point_is_told(self):
+        other = a_drawing([], [self.end])
+        self.assertRaises(TooMuch, asked, other, self.arc[2])
+        self.parted(a_drawing([self.arc]), other, 1)
+
+    def test_none_can_be_asked(self):
+        self.assertRaises(TooMuch, alike, a_drawing([self.arc], [self.end]), a_drawing([], [self.end]))
+
+
 class Any(Look):
     def test_told_otherwise(self):
         chance = source("alike")
