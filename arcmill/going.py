@@ -1,9 +1,9 @@
 """The pen goes along the rows of a program: their move, and what they draw."""
 
 from arcmill.errors import TooMuch
-from arcmill.frames import behind, first, led_piece, undone
+from arcmill.frames import behind, first, undone
 from arcmill.movers import power
-from arcmill.rows import deed_of, how_many_done, how_many_numbers, piece_of
+from arcmill.rows import deed_of, how_many_done, how_many_numbers, led_leg, piece_of
 
 MOST_DONE = 300
 
@@ -21,6 +21,17 @@ def move(rows):
 
 def drawn(program):
     """The drawing (still, ends) of a program."""
+    still, ends = gone_along(program)
+    return (pieces_of(still), [end[:3] + (pieces_of(end[3]),) for end in ends])
+
+
+def pieces_of(rows):
+    """The tuples (leg, row, rounds) with the pieces of their legs."""
+    return [(piece_of(leg), row, rounds) for leg, row, rounds in rows]
+
+
+def gone_along(program):
+    """What a program draws, a drawing but for the legs that stand in it instead of their pieces."""
     if how_many_done(program) > MOST_DONE:
         raise TooMuch("the program does too many rows")
     still = []
@@ -30,7 +41,7 @@ def drawn(program):
 
 
 def draw_rows(rows, number, frame, rounds, sheet):
-    """Puts what rows draw, the first of them of this number, on a sheet (pieces, ends), and tells the frame behind."""
+    """Puts what rows draw, the first of them of this number, on a sheet (legs, ends), and tells the frame behind."""
     at = number
     pen = frame
     for row in rows:
@@ -50,11 +61,11 @@ def draw_row(row, at, frame, rounds, sheet):
         draw_rows(row[1], at + 1, frame, rounds, sheet)
         return frame
     if row[0] == "ever":
-        pieces = []
-        stop = draw_rows(row[1], at + 1, frame, (), (pieces, []))
-        sheet[1].append((behind(stop, undone(frame)), at, rounds, pieces))
+        legs = []
+        stop = draw_rows(row[1], at + 1, frame, (), (legs, []))
+        sheet[1].append((behind(stop, undone(frame)), at, rounds, legs))
         return frame
     leg, step = deed_of(row)
     if leg is not None:
-        sheet[0].append((led_piece(frame, piece_of(leg)), at, rounds))
+        sheet[0].append((led_leg(frame, leg), at, rounds))
     return behind(frame, step)

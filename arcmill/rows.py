@@ -6,7 +6,7 @@ left and -1 to the right.
 
 from arcmill.arcs import arc
 from arcmill.fractions import ONE, plus
-from arcmill.frames import first
+from arcmill.frames import first, led
 from arcmill.points import MIDDLE
 from arcmill.stretches import stretch
 
@@ -116,6 +116,15 @@ def piece_of(leg):
     return arc(leg[1], leg[3], leg[2])
 
 
+def led_leg(frame, leg):
+    """The leg, led point by point."""
+    if leg[0] == "straight":
+        return ("straight", led(frame, leg[1]), led(frame, leg[2]))
+    c, p, q = [led(frame, point) for point in leg[1:4]]
+    # Mirrored, a way to the left goes to the right.
+    return ("bend", c, p, q, leg[4] * frame[2])
+
+
 def rows_within(row):
     """The rows of a block, None of a row without one."""
     if row[0] == "again":
@@ -128,7 +137,22 @@ def how_many_numbers(row):
     rows = rows_within(row)
     if rows is None:
         return 1
-    return 2 + sum([how_many_numbers(each) for each in rows])
+    return 2 + numbers_of_rows(rows)
+
+
+def numbers_of_rows(rows):
+    """How many numbers rows take."""
+    return sum([how_many_numbers(row) for row in rows])
+
+
+def how_many_rows(rows):
+    """How many rows there are, those of blocks too, ends not counted."""
+    many = len(rows)
+    for row in rows:
+        within = rows_within(row)
+        if within is not None:
+            many += how_many_rows(within)
+    return many
 
 
 def how_many_done(rows):
@@ -141,3 +165,15 @@ def how_many_done(rows):
         else:
             many += how_many_done(within) * (row[1] if row[0] == "again" else 1)
     return many
+
+
+def draws(rows):
+    """Whether rows draw a piece at least."""
+    for row in rows:
+        within = rows_within(row)
+        if within is None:
+            if deed_of(row)[0] is not None:
+                return True
+        elif draws(within) and (row[0] != "again" or row[1] > 0):
+            return True
+    return False
