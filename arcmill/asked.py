@@ -4,6 +4,7 @@ from arcmill.arcs import on
 from arcmill.ends import span
 from arcmill.frames import led, undone
 from arcmill.movers import count, kind, power
+from arcmill.steps import stepped_point
 from arcmill.ways import powers_between
 
 
@@ -32,7 +33,13 @@ def number_on(rows, point):
 
 def end_has(end, n, point):
     """The least number of a piece of an end that has the point in round n, or None."""
-    return number_on(end[3], led(undone(power(end[0], n)), point))
+    return number_on(end[3], led_back(end[0], n, point))
+
+
+def led_back(frame, n, point):
+    """The point that the n-th power of a map leads to a point."""
+    many = count(frame)
+    return stepped_point(kind(frame), -(n // many), led(undone(power(frame, n % many)), point))
 
 
 def earliest(end, point):

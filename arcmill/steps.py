@@ -5,7 +5,7 @@ The i-th step of the kind on is the number i itself; of the kind smaller it is 1
 
 from arcmill.fractions import ONE, below, minus, over
 from arcmill.frames import first
-from arcmill.points import grown
+from arcmill.points import grown, off, together
 
 
 def raised_whole(number, n):
@@ -38,6 +38,22 @@ def stepped(kind, n):
         # The middle is led to itself, which tells the place.
         return (grown(kind[1], minus(ONE, size)), 0, 1, size)
     return first()
+
+
+def stepped_point(kind, n, p):
+    """The point to which that power leads p."""
+    # Seen from the middle only the size has many figures, so this is quicker than by the frame.
+    if kind[0] == "on":
+        return together(p, grown(kind[1], (n, 1)))
+    if kind[0] == "smaller":
+        return together(kind[1], grown(off(p, kind[1]), raised(kind[2], n)))
+    return p
+
+
+def stepped_piece(kind, n, piece):
+    """The piece to which that power leads a piece."""
+    # A plain map neither turns nor mirrors, so the order of the points stays.
+    return (piece[0],) + tuple([stepped_point(kind, n, p) for p in piece[1:]])
 
 
 def last_step(kind, number):

@@ -72,6 +72,8 @@ def given_names(deed):
             names.append(row.id)
         elif isinstance(row, ast.FunctionDef) and row is not deed:
             names.append(row.name)
+        elif isinstance(row, ast.ExceptHandler) and row.name:
+            names.append(row.name)
     return names
 
 
