@@ -68,6 +68,7 @@ class SlideCover:
         self.goal = goal
         self.stills = slides_of(kind, goal, stills)
         self.flows = slides_of(kind, goal, flows)
+        self.onward = {}
 
     def led_along(self, n, pure):
         """The chain for round n, of flow alone where it is pure, and None; or None and a gap in the goal."""
@@ -75,14 +76,15 @@ class SlideCover:
         fixed = [] if pure else [self.back(slide, n) for slide in self.stills]
         chain = []
         stand = start
+        at = None
         while below(stand, stop):
-            best = self.best_from(stand, n, fixed)
+            best = self.best_from(stand, at, n, fixed)
             if best is None:
                 beyond = self.next_start(stand, n, fixed, stop)
                 gap = (point_at(self.kind, self.goal, stand), point_at(self.kind, self.goal, beyond))
                 return (None, gap)
-            chain.append(best[1:])
-            stand = best[0]
+            stand, link, at = best
+            chain.append(link)
         if not before(self.goal[1], led(stepped(self.kind, 1), self.goal[1])):
             chain = chain[::-1]
         return (chain, None)
@@ -91,18 +93,48 @@ class SlideCover:
         """A slide led back by n rounds."""
         return (slide[0], moved(self.kind, slide[1], -n), moved(self.kind, slide[2], -n))
 
-    def best_from(self, stand, n, fixed):
-        """The tuple (stop, number, round) of the slide that leads furthest on from where one stands, or None."""
-        found = [(stop, number, 0) for number, start, stop in fixed if not below(stand, start)]
-        for number, start, stop in self.flows:
-            i = last_round(self.kind, start, stand)
-            if i + n >= 0:
-                found.append((moved(self.kind, stop, i), number, i + n))
-        best = None
-        for each in found:
-            if below(stand, each[0]) and (best is None or below(best[0], each[0])):
-                best = each
+    def best_from(self, stand, at, n, fixed):
+        """The tuple (stop, (number, round), at) of the slide that leads furthest on from where one stands, or None.
+
+        At is the pair of a place among the slides of flow and a power at whose stop one stands, None at any other stop.
+        """
+        best = self.flow_from(stand, at, n)
+        for number, start, stop in fixed:
+            if not below(stand, start) and below(stand if best is None else best[0], stop):
+                best = (stop, (number, 0), None)
         return best
+
+    def flow_from(self, stand, at, n):
+        """That tuple of slides of flow alone."""
+        found = self.furthest(stand, -n) if at is None else self.furthest_behind(at)
+        if found is not None and found[1] < -n:
+            found = self.furthest(stand, -n)
+        if found is None:
+            return None
+        number, start, stop = self.flows[found[0]]
+        return (moved(self.kind, stop, found[1]), (number, found[1] + n), found)
+
+    def furthest(self, stand, least_power):
+        """The place and the power, from a least one on if one is told, of the slide of flow that leads furthest on."""
+        best = None
+        best_stop = stand
+        for place, (number, start, stop) in enumerate(self.flows):
+            i = last_round(self.kind, start, stand)
+            if least_power is None or i >= least_power:
+                there = moved(self.kind, stop, i)
+                if below(best_stop, there):
+                    best = (place, i)
+                    best_stop = there
+        return best
+
+    def furthest_behind(self, at):
+        """The place and the power of the slide of flow, of any round, that leads furthest on from one's stop."""
+        place, i = at
+        # From the stop of a slide all is the same in each round, so each is looked at but once.
+        if place not in self.onward:
+            self.onward[place] = self.furthest(self.flows[place][2], None)
+        found = self.onward[place]
+        return None if found is None else (found[0], found[1] + i)
 
     def next_start(self, stand, n, fixed, limit):
         """The least number beyond where one stands, up to a limit, at which a slide starts."""

@@ -178,7 +178,29 @@ class On(Look):
                   a_drawing(cut, [(on(1, 1), [level(4, 5, 2), level(3, 6, 3), level(2, 4, 2)])]))
 
 
+    def test_long_chains(self):
+        # Many slides lead along one stretch, some of them through still ones, some only in later rounds.
+        slides = [level(Fraction(k, 12), Fraction(k + 1, 12)) for k in range(12)]
+        ends = [(on(1), [level(0, 1)])]
+        self.same(a_drawing([level(0, 280)], ends), a_drawing([], [(on(1), slides)]))
+        self.same(a_drawing([], ends), a_drawing([level(0, 100)], [(on(1), [level(100 + Fraction(k, 5), 101 + Fraction(k, 5)) for k in range(5)])]))
+        late = [level(k, k + Fraction(3, 2)) for k in (3, 0, 7)]
+        self.same(a_drawing([level(0, 250), level(Fraction(1, 2), 199)], ends), a_drawing([level(0, 4)], [(on(1), slides[3:] + late)]))
+        self.parted(a_drawing([level(0, 280)], ends), a_drawing([], [(on(1), slides[:-1])]), 0)
+        self.parted(a_drawing([level(0, 280)], ends), a_drawing([level(0, 279)], [(on(1), slides[:-1])]), 0)
+        self.parted(a_drawing([level(-1, 280)], ends), a_drawing([], [(on(1), slides + late)]), 0)
+
+
 class Smaller(Look):
+    def test_long_chains(self):
+        slides = [level(Fraction(36 + k, 48), Fraction(37 + k, 48)) for k in range(12)]
+        one = [(smaller(3, 4), [level(Fraction(3, 4), 1)])]
+        deep = level(Fraction(3 ** 280, 4 ** 280), 1)
+        self.same(a_drawing([deep], one), a_drawing([], [(smaller(3, 4), slides)]))
+        self.same(a_drawing([deep], one), a_drawing([level(Fraction(1, 9), 1)], [(smaller(3, 4), slides[::-1])]))
+        self.parted(a_drawing([deep], one), a_drawing([deep], [(smaller(3, 4), slides[1:])]), 0)
+        self.parted(a_drawing([deep], one), a_drawing([level(Fraction(1, 2), 1)], [(smaller(3, 4), slides[:-1])]), 0)
+
     def test_told_otherwise(self):
         pieces = [dot(4, 1), level(1, 4, 2), stretch((1, 3), (1, 5)), ring((0, 9), (1, 9)), ring((0, 0), (3, 4)),
                   ("arc", point(0, 20), point(5, 20), point(3, 24)), level(2, 5), ring((3, 4), (0, 0))]
