@@ -186,6 +186,10 @@ class On(Look):
         self.same(a_drawing([], ends), a_drawing([level(0, 100)], [(on(1), [level(100 + Fraction(k, 5), 101 + Fraction(k, 5)) for k in range(5)])]))
         late = [level(k, k + Fraction(3, 2)) for k in (3, 0, 7)]
         self.same(a_drawing([level(0, 250), level(Fraction(1, 2), 199)], ends), a_drawing([level(0, 4)], [(on(1), slides[3:] + late)]))
+        # The slide that would lead furthest on isn't there yet.
+        early = [level(2, Fraction(5, 2)), level(Fraction(5, 2), 3), level(Fraction(11, 2), Fraction(33, 5))]
+        self.same(a_drawing([], ends), a_drawing([level(0, 2)], [(on(1), early)]))
+        self.parted(a_drawing([], ends), a_drawing([level(0, 2)], [(on(1), early[::2])]), 0)
         self.parted(a_drawing([level(0, 280)], ends), a_drawing([], [(on(1), slides[:-1])]), 0)
         self.parted(a_drawing([level(0, 280)], ends), a_drawing([level(0, 279)], [(on(1), slides[:-1])]), 0)
         self.parted(a_drawing([level(-1, 280)], ends), a_drawing([], [(on(1), slides + late)]), 0)

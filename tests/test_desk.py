@@ -114,6 +114,13 @@ class Answers(Look):
                   ("area odd 2", "0 0"), ("area wound 2", "4 4"), ("put 0 arc 0 1 0 0", "ok"), ("area odd 1", "0 4"),
                   ("put 0 side 1/3 0 ; left ; go 1/2", "ok"), ("area odd 3", "1/12 1/12"), ("put 0 again 7 ; quarter 1 ; end", "ok"), ("area odd 4", "too much"))
 
+    def test_parts(self):
+        self.told(("put 0 arc 0 1 0 0", "ok"))
+        answers = [self.desk.say(f"area wound {parts}") for parts in (1, 2, 3, 4)]
+        wanted = [area(strokes(read("arc 0 1 0 0")), "wound", parts) for parts in (1, 2, 3, 4)]
+        self.assertEqual(answers, [" ".join(str(Fraction(*number)) for number in pair) for pair in wanted])
+        self.assertEqual(len(set(answers)), 4)
+
     def test_a_program_that_does_too_many_rows(self):
         row = "again 12 ; again 12 ; again 12 ; dot ; end ; end ; end"
         self.told(("put 0 " + row, "ok"), ("show", row), ("pieces", "too much"), ("few", "too much"), ("point 0 0", "too much"), ("like dot", "too much"),

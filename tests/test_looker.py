@@ -19,7 +19,7 @@ OTHER_FORMS = (None, True, False, 0, 1, -1, "", "still", "out", (), [], ("still"
                ("still", "0"), ("still", None), ("still", True), ("still", (0,)), ("still", [0]), (0,), (("still", 0),), ("Still", 0),
                (True, 0), ("end", 0, 0), ("end", 0, 0, 0, 0), ("end", 0, 0, None), ("end", "0", 0, 0), ("end", 0, (0,), 0),
                ["end", 0, 0, 0], ("out", None), ("out", ()), ("out", 0), ("out", "[]"), ("out", [], []), ("out", [0]), ("out", [None]),
-               ("out", [(0,)]), ("out", [(0, 1, 2)]), ("out", [[0, 1]]), ("out", ((0, 1),)), ("out", ["01"]), ("none", 0),
+               ("out", [(0,)]), ("out", [(0, 1, 2)]), ("out", [[0, 1]]), ("out", ((0, 1),)), ("out", ["01"]), ("none", 0), ("none", []), ("", []), (0, []),
                ("end", [[[[[[[[[]]]]]]]]], ((((((((),),),),),),),), 0))
 
 
@@ -381,6 +381,13 @@ class AnyEvened(unittest.TestCase):
                 papers = ([[(0, n)], [[(0, 0)]]], [[[(1, 0)]]])
                 self.assertIs(alike_shown((sort, one, other), papers), most is None or n <= most, (sort, n))
                 self.assertIs(alike_shown((sort, one, other), ([[(0, n - 1)], [[(0, 0)]]], [[[(1, 0)]]])), False)
+
+    def test_flow_without_a_map(self):
+        # Of no drawings: flow that goes nowhere is the same in each round, and no round is too late.
+        even = (("none",), ([dot(1)], [level(0, 2)]), ([], [level(0, 1), level(1, 2)]))
+        self.assertTrue(alike_shown(even, ([[(0, 5000)], [[(0, 0), (1, 3)]]], [[[(1, 0)]], [[(1, 2001)]]])))
+        self.assertFalse(alike_shown(even, ([[(0, 5000)], [[(0, 0), (1, 3)]]], [[[(0, 0)]], [[(1, 2001)]]])))
+        self.assertFalse(alike_shown(even, ([[(0, -1)], [[(0, 0), (1, 3)]]], [[[(1, 0)]], [[(1, 2001)]]])))
 
     def test_a_still_one_has_one_round(self):
         even = (("on", point(1, 0)), ([dot(1)], [dot(0)]), ([dot(0)], [dot(0)]))
